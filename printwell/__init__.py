@@ -1,0 +1,1 @@
+"""Printwell: texts laid out at their best, and read back the same."""
