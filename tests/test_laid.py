@@ -25,6 +25,21 @@ INNER = {
     "choice 1": (("choice", LINE, X), [1]),
 }
 
+# Behind the text ab and ahead of the text z, with nothing round them.
+AS_THEY_ARE = {
+    "text": "abxz",
+    "empty": "abz",
+    "line": "ab\nz",
+    "cut": "ab\nz",
+    "nest": "ab\n   yz",
+    "nest by 0": "ab\nyz",
+    "align": "ab\n  yz",
+    "flat": "ab yz",
+    "beside": "ab\nyz",
+    "choice 0": "ab\nz",
+    "choice 1": "abxz",
+}
+
 
 class KindsWithinKindsTest(unittest.TestCase):
     """Each kind within the one that is put round it, behind the text ab and ahead of the text z."""
@@ -37,19 +52,7 @@ class KindsWithinKindsTest(unittest.TestCase):
                 self.assertEqual(laid(plan, list(first_sides) + sides), wanted[name])
 
     def test_within_nothing(self):
-        self.check(lambda inner: inner, {
-            "text": "abxz",
-            "empty": "abz",
-            "line": "ab\nz",
-            "cut": "ab\nz",
-            "nest": "ab\n   yz",
-            "nest by 0": "ab\nyz",
-            "align": "ab\n  yz",
-            "flat": "ab yz",
-            "beside": "ab\nyz",
-            "choice 0": "ab\nz",
-            "choice 1": "abxz",
-        })
+        self.check(lambda inner: inner, AS_THEY_ARE)
 
     def test_within_nest(self):
         self.check(lambda inner: ("nest", 4, inner), {
@@ -67,19 +70,7 @@ class KindsWithinKindsTest(unittest.TestCase):
         })
 
     def test_within_nest_by_0(self):
-        self.check(lambda inner: ("nest", 0, inner), {
-            "text": "abxz",
-            "empty": "abz",
-            "line": "ab\nz",
-            "cut": "ab\nz",
-            "nest": "ab\n   yz",
-            "nest by 0": "ab\nyz",
-            "align": "ab\n  yz",
-            "flat": "ab yz",
-            "beside": "ab\nyz",
-            "choice 0": "ab\nz",
-            "choice 1": "abxz",
-        })
+        self.check(lambda inner: ("nest", 0, inner), AS_THEY_ARE)
 
     def test_within_align(self):
         self.check(lambda inner: ("align", inner), {
@@ -141,25 +132,11 @@ class KindsWithinKindsTest(unittest.TestCase):
             "choice 1": "ab-xz",
         })
 
-    CHOSEN = {
-        "text": "abxz",
-        "empty": "abz",
-        "line": "ab\nz",
-        "cut": "ab\nz",
-        "nest": "ab\n   yz",
-        "nest by 0": "ab\nyz",
-        "align": "ab\n  yz",
-        "flat": "ab yz",
-        "beside": "ab\nyz",
-        "choice 0": "ab\nz",
-        "choice 1": "abxz",
-    }
-
     def test_first_in_choice(self):
-        self.check(lambda inner: ("choice", inner, text("!")), self.CHOSEN, [0])
+        self.check(lambda inner: ("choice", inner, text("!")), AS_THEY_ARE, [0])
 
     def test_second_in_choice(self):
-        self.check(lambda inner: ("choice", text("!"), inner), self.CHOSEN, [1])
+        self.check(lambda inner: ("choice", text("!"), inner), AS_THEY_ARE, [1])
 
 
 class KindsByThemselvesTest(unittest.TestCase):
