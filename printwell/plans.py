@@ -3,6 +3,7 @@
 from printwell.errors import BadBits
 
 BREAKS_IN_ONE_ROW = {"line": " ", "cut": ""}
+WRAPPERS = ("nest", "align", "flat")
 
 
 def group(plan):
@@ -28,37 +29,53 @@ def filled(words):
     return joined(parts)
 
 
-def plans_within(plan):
-    kind = plan[0]
-    if kind == "text" or kind in BREAKS_IN_ONE_ROW:
+def is_leaf(plan):
+    return plan[0] == "text" or plan[0] in BREAKS_IN_ONE_ROW
+
+
+def signs_in_one_row(leaf):
+    return leaf[1] if leaf[0] == "text" else BREAKS_IN_ONE_ROW[leaf[0]]
+
+
+def core_of(plan):
+    while plan[0] in WRAPPERS:
+        plan = plan[-1]
+    return plan
+
+
+def cores_within(core):
+    if is_leaf(core):
         return []
-    if kind == "nest":
-        return [plan[2]]
-    return list(plan[1:])
+    first = core_of(core[1])
+    second = core_of(core[2])
+    # A group holds its plan twice: gone through twice, groups within groups double the work each time.
+    return [first] if first == second else [first, second]
 
 
-def parts_from_outside(plan):
-    parts = []
-    waiting = [plan]
+# Cores are leaves, besides and choices, whatever wrappers are round them; each stands here with
+# how many cores it has just within it.
+def cores_from_outside(plan):
+    cores = []
+    # A list in the place of calls bears plans of any depth.
+    waiting = [core_of(plan)]
     while waiting:
-        part = waiting.pop()
-        parts.append(part)
-        waiting.extend(plans_within(part))
-    return parts
+        core = waiting.pop()
+        within = cores_within(core)
+        cores.append((core, len(within)))
+        waiting.extend(within)
+    return cores
 
 
 def count(plan):
-    # From the inside out, each part finds the counts of the plans within it at the end
-    # of the list; a list in the place of calls bears plans of any depth.
+    # From the inside out, each core finds the counts of those within it at the end of the list.
     counts = []
-    for part in reversed(parts_from_outside(plan)):
-        kind = part[0]
-        if kind == "beside":
-            counts.append(counts.pop() * counts.pop())
-        elif kind == "choice":
-            counts.append(counts.pop() + counts.pop())
-        elif not plans_within(part):
+    for step in reversed(cores_from_outside(plan)):
+        if step[1] == 0:
             counts.append(1)
+            continue
+        second = counts.pop()
+        first = counts.pop() if step[1] == 2 else second
+        counts.append(first * second if step[0][0] == "beside" else first + second)
     return counts[0]
 
 
@@ -87,11 +104,8 @@ def side_taken(choice, bits, met):
 
 
 def write_leaf(sheet, plan, margin, in_one_row):
-    kind = plan[0]
-    if kind == "text":
-        sheet.put(plan[1])
-    elif in_one_row:
-        sheet.put(BREAKS_IN_ONE_ROW[kind])
+    if plan[0] == "text" or in_one_row:
+        sheet.put(signs_in_one_row(plan))
     else:
         sheet.begin_row(margin)
 
@@ -111,7 +125,7 @@ def next_steps(plan, margin, in_one_row, column):
 def laid(plan, bits):
     sheet = Sheet()
     met = 0
-    # A list of steps in the place of calls bears plans of any depth.
+    # As above, steps in the place of calls.
     waiting = [(plan, 0, False)]
     while waiting:
         step = waiting.pop()
@@ -121,10 +135,10 @@ def laid(plan, bits):
         if part[0] == "choice":
             waiting.append((side_taken(part, bits, met), margin, in_one_row))
             met += 1
-        elif plans_within(part):
-            waiting.extend(next_steps(part, margin, in_one_row, sheet.column))
-        else:
+        elif is_leaf(part):
             write_leaf(sheet, part, margin, in_one_row)
+        else:
+            waiting.extend(next_steps(part, margin, in_one_row, sheet.column))
     if met < len(bits):
         raise BadBits("too many sides")
     return "".join(sheet.pieces)

@@ -42,6 +42,15 @@ class FormTest(unittest.TestCase):
     def nodes(self, *kinds):
         return [(name, node) for name in self.trees for node in ast.walk(self.trees[name]) if isinstance(node, kinds)]
 
+    def names_at_the_top(self, name):
+        names = []
+        for node in self.trees[name].body[1:]:
+            if isinstance(node, ast.Assign):
+                names.append(node.targets[0].id)
+            elif not isinstance(node, ast.ImportFrom):
+                names.append(node.name)
+        return names
+
     def refuse(self, name, node, why):
         self.fail(f"{name}.py, row {getattr(node, 'lineno', '?')}: {why}")
 
@@ -112,9 +121,8 @@ class FormTest(unittest.TestCase):
             self.assertEqual(node.level, 0)
             whole, dot, source = node.module.partition(".")
             self.assertEqual((whole, dot), ("printwell", "."))
-            defined = [part.name for part in self.trees[source].body if hasattr(part, "name")]
             for alias in node.names:
-                self.assertIn(alias.name, defined)
+                self.assertIn(alias.name, self.names_at_the_top(source))
             drawn[name] |= {source, "__init__"}
         while drawn:
             free = [name for name in drawn if not drawn[name] & set(drawn)]
@@ -124,14 +132,28 @@ class FormTest(unittest.TestCase):
     def test_top_of_modules(self):
         for name, tree in self.trees.items():
             self.assertIsNotNone(ast.get_docstring(tree), name)
-            bound = []
             for node in tree.body[1:]:
                 self.assertIsInstance(node, (ast.ImportFrom, ast.FunctionDef, ast.ClassDef, ast.Assign), name)
-                if isinstance(node, ast.Assign):
-                    bound.append(node.targets[0].id)
-                elif not isinstance(node, ast.ImportFrom):
-                    bound.append(node.name)
+            bound = self.names_at_the_top(name)
             self.assertEqual(len(bound), len(set(bound)), name)
+
+    def test_locals_are_not_called_like_classes_and_imports(self):
+        for name, tree in self.trees.items():
+            taken = [alias.name for node in tree.body if isinstance(node, ast.ImportFrom) for alias in node.names]
+            taken += [node.name for node in tree.body if isinstance(node, ast.ClassDef)]
+            for node in ast.walk(tree):
+                if isinstance(node, ast.arg):
+                    self.assertNotIn(node.arg, taken)
+                if isinstance(node, ast.Name) and isinstance(node.ctx, ast.Store):
+                    self.assertNotIn(node.id, taken)
+
+    def test_no_name_is_a_method_and_a_value(self):
+        methods = {part.name for name, node in self.nodes(ast.ClassDef) for part in node.body
+                   if isinstance(part, ast.FunctionDef)}
+        values = {node.attr for name, node in self.nodes(ast.Attribute) if isinstance(node.ctx, ast.Store)}
+        self.assertFalse(methods & values)
+        pythons_own = {word for kind in (str, int, list, dict, set, bytes, tuple) for word in vars(kind)}
+        self.assertFalse((methods | values) & pythons_own - UNDERSCORED)
 
     def test_classes_hold_methods_alone(self):
         for name, node in self.nodes(ast.ClassDef):

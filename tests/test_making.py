@@ -3,7 +3,7 @@
 import itertools
 import unittest
 
-from helper import CUT, LINE, all_sides, beside, many_plans, text
+from helper import CUT, LINE, all_sides, beside, many_plans, short_time, text
 from printwell.errors import BadBits
 from printwell.plans import count, filled, group, joined, laid
 
@@ -140,6 +140,16 @@ class CountTest(unittest.TestCase):
         for deep in range(1, 13):
             plan = group(plan)
             self.assertEqual(count(plan), 2 ** deep)
+
+    def test_plans_that_hold_one_plan_in_very_many_places(self):
+        grouped = LINE
+        twice = EITHER
+        for step in range(60):
+            grouped = group(beside(text("a"), ("nest", 1, grouped)))
+            twice = ("choice", ("align", twice), twice)
+        with short_time():
+            self.assertEqual(count(grouped), 2 ** 60)
+            self.assertEqual(count(twice), 2 ** 61)
 
     def test_a_deep_plan(self):
         plan = EITHER
